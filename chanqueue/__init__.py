@@ -1,0 +1,1 @@
+"""A transputer: three registers in a row, processes, channels, choices."""
